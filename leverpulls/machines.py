@@ -1,4 +1,4 @@
-"""The worth of machines of which one is pulled at a time.
+"""What machines are worth of which one is pulled at a time.
 
 The states of all machines together are one joint state, and the joint states are numbered.
 A pull is a tuple (gain, total, moves): what is gained at once, the sum of the weights, and
@@ -14,15 +14,23 @@ MOST_MACHINES = 3
 MOST_STATES = 4
 MOST_GAIN = 1000
 MOST_WEIGHT = 100
+MOST_STEPS = 20
 
 
 def value(b, states, machines):
     """0 and the worth of the states in millionths, or -1 alone."""
     if is_refused(b, states, machines):
         return [REFUSED]
-    counts = state_counts(machines)
     settled = best_worths(b, all_pulls(machines))
-    return [DONE, millionths(settled[0][joint_number(states, counts)], settled[1])]
+    return [DONE, worth_at(states, machines, settled)]
+
+
+def steps(b, k, states, machines):
+    """0 and what k pulls and no more are worth at most, in millionths, or -1 alone."""
+    if k < 0 or k > MOST_STEPS or is_refused(b, states, machines):
+        return [REFUSED]
+    settled = worths_of_steps(b, k, all_pulls(machines))
+    return [DONE, worth_at(states, machines, settled)]
 
 
 def is_refused(b, states, machines):
@@ -172,6 +180,39 @@ def pull_numerator(b, pull, settled):
     """What the pull is worth, times a hundred, its sum of weights and the divisor."""
     expected = sum([weight * settled[0][after] for after, weight in pull[2]])
     return HUNDRED * pull[1] * settled[1] * pull[0] + b * expected
+
+
+def worths_of_steps(b, k, pulls):
+    """The numerators of what k pulls are worth in all joint states, and their divisor."""
+    common = common_multiple(pulls)
+    settled = ([0] * len(pulls), 1)
+    for step in range(k):
+        settled = one_more_step(b, pulls, settled, common)
+    return settled
+
+
+def common_multiple(pulls):
+    """A whole number that every pull's sum of weights divides."""
+    multiple = 1
+    for listed in pulls:
+        for pull in listed:
+            if multiple % pull[1] != 0:
+                multiple = multiple * pull[1]
+    return multiple
+
+
+def one_more_step(b, pulls, settled, common):
+    """The worths when one pull more is made, ahead of those that are settled."""
+    numerators = []
+    for listed in pulls:
+        # Over one divisor the greatest numerator is the greatest worth.
+        numerators.append(max([pull_numerator(b, pull, settled) * (common // pull[1]) for pull in listed]))
+    return (numerators, HUNDRED * common * settled[1])
+
+
+def worth_at(states, machines, settled):
+    number = joint_number(states, state_counts(machines))
+    return millionths(settled[0][number], settled[1])
 
 
 def millionths(numerator, divisor):

@@ -1,8 +1,10 @@
-"""What value refuses: each wrong thing by itself, in calls that are right otherwise."""
+"""What is refused: each wrong thing by itself, in calls that are right otherwise, by every function."""
 
 import unittest
 
-from leverpulls.machines import value
+from leverpulls.machines import steps
+
+import calls
 
 FAR = 2147483647
 STAY = [[7], [1]]
@@ -13,11 +15,13 @@ FOUR = [[1, 2, 3, 4], [1] * 16]
 
 class Refusals(unittest.TestCase):
     def refused(self, b, states, machines):
-        self.assertEqual(value(b, states, machines), [-1], (b, states, machines))
+        for name, call in calls.CALLS.items():
+            self.assertEqual(call(b, states, machines), [-1], (name, b, states, machines))
 
     def taken(self, b, states, machines):
-        answer = value(b, states, machines)
-        self.assertEqual((len(answer), answer[0]), (2, 0), (b, states, machines))
+        for name, call in calls.CALLS.items():
+            answer = call(b, states, machines)
+            self.assertTrue(calls.is_taken(name, machines, answer), (name, b, states, machines, answer))
 
     def test_b(self):
         for b in (0, 100, -1, 101, -50, 1000, FAR, -FAR - 1):
@@ -105,6 +109,25 @@ class Refusals(unittest.TestCase):
     def test_several_wrong_things_are_one_refusal(self):
         self.refused(0, [], [[], []])
         self.refused(100, [9, 9], [[5000], [0], [], [1]] + STAY)
+
+
+class RefusalsOfSteps(unittest.TestCase):
+    def test_k(self):
+        for k in (-1, 21, -2, 22, 1000, FAR, -FAR - 1):
+            self.assertEqual(steps(50, k, [0], STAY), [-1], k)
+            self.assertEqual(steps(50, k, [0, 1], STAY + TWO), [-1], k)
+        for k in (0, 1, 19, 20):
+            self.assertEqual(steps(50, k, [0], STAY)[0], 0, k)
+
+    def test_no_pull_at_all_is_refused_all_the_same(self):
+        for b, states, machines in ((0, [0], STAY), (100, [0], STAY), (50, [1], STAY), (50, [], STAY),
+                                    (50, [0], [[], []]), (50, [0], [[1001], [1]]), (50, [0], [[1], [0]]),
+                                    (50, [0], [[1], [101]]), (50, [0] * 4, STAY * 4)):
+            self.assertEqual(steps(b, 0, states, machines), [-1], (b, states, machines))
+
+    def test_k_wrong_beside_other_wrong_things(self):
+        self.assertEqual(steps(0, -1, [], [[], []]), [-1])
+        self.assertEqual(steps(100, 21, [5], [[1001], [0]]), [-1])
 
 
 if __name__ == "__main__":

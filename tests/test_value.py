@@ -5,6 +5,7 @@ import unittest
 from leverpulls.machines import value
 
 import bracket
+import samples
 
 
 class OneMachine(unittest.TestCase):
@@ -187,43 +188,25 @@ class AgainstBounds(unittest.TestCase):
         self.assertEqual(answer[0], 0)
         self.assertTrue(low <= answer[1] <= high, (b, states, machines, answer, low, high))
 
-    def numbers(self, seed):
-        """Numbers below 2 to the 31, the same ones every time."""
-        while True:
-            seed = (seed * 1103515245 + 12345) % 2147483648
-            yield seed // 65536
-
-    def machine(self, numbers, count, most):
-        gains = [next(numbers) % (2 * most + 1) - most for i in range(count)]
-        weights = [max(0, next(numbers) % 160 - 59) for i in range(count * count)]
-        for state in range(count):
-            weights[state * count + (state + 1) % count] += 1 - min(1, sum(weights[state * count:][:count]))
-        return [gains, weights]
-
     def test_many_small_ones(self):
         for seed in range(120):
-            numbers = self.numbers(seed)
+            numbers = samples.numbers_from(seed)
             counts = [[1], [4], [2, 2], [3, 2], [1, 4], [2, 2, 2], [4, 1, 2], [2, 3, 1]][seed % 8]
-            machines = []
-            for count in counts:
-                machines += self.machine(numbers, count, 1000 if seed % 3 else 6)
-            states = [next(numbers) % count for count in counts]
+            machines = samples.machines_of(numbers, counts, 1000 if seed % 3 else 6)
+            states = samples.states_of(numbers, counts)
             self.check(1 + next(numbers) % 90, states, machines)
 
     def test_24_joint_states(self):
         for seed, counts in enumerate([[2, 3, 4], [4, 3, 2], [3, 4, 2], [4, 2, 3], [2, 4, 3], [3, 2, 4]]):
-            numbers = self.numbers(1000 + seed)
-            machines = []
-            for count in counts:
-                machines += self.machine(numbers, count, 1000)
+            numbers = samples.numbers_from(1000 + seed)
+            machines = samples.machines_of(numbers, counts, 1000)
             for b in (1, 60, 90):
-                self.check(b, [next(numbers) % count for count in counts], machines)
+                self.check(b, samples.states_of(numbers, counts), machines)
 
     def test_b_99(self):
         for seed in range(3):
-            numbers = self.numbers(2000 + seed)
-            machines = self.machine(numbers, 3, 1000) + self.machine(numbers, 2, 1000)
-            self.check(99, [seed, 1], machines)
+            numbers = samples.numbers_from(2000 + seed)
+            self.check(99, [seed, 1], samples.machines_of(numbers, [3, 2], 1000))
 
 
 if __name__ == "__main__":

@@ -1,0 +1,15 @@
+"""The program's functions as calls of one form, call(b, states, machines), and the form of their answers."""
+
+from leverpulls import machines as program
+
+
+def steps(b, states, machines):
+    return program.steps(b, 3, states, machines)
+
+
+CALLS = {"value": program.value, "steps": steps}
+
+
+def is_taken(name, machines, answer):
+    """Whether the answer has the form of one that is no refusal."""
+    return len(answer) == 2 and answer[0] == 0
