@@ -33,6 +33,15 @@ def steps(b, k, states, machines):
     return [DONE, worth_at(states, machines, settled)]
 
 
+def best(b, states, machines):
+    """The sum of 2 to the i over all machines i that are best to pull, or -1, alone."""
+    if is_refused(b, states, machines):
+        return [REFUSED]
+    pulls = all_pulls(machines)
+    at_hand = pulls[joint_number(states, state_counts(machines))]
+    return [sum_of_best(b, at_hand, best_worths(b, pulls))]
+
+
 def is_refused(b, states, machines):
     count = len(machines) // 2
     if b < 1 or b > HUNDRED - 1 or count > MOST_MACHINES or len(states) != count:
@@ -174,6 +183,16 @@ def bettered_choices(b, pulls, choices, settled):
 def is_worth_more(b, pull, other, settled):
     # Both worths are cleared of their own sum of weights by the other's.
     return pull_numerator(b, pull, settled) * other[1] > pull_numerator(b, other, settled) * pull[1]
+
+
+def sum_of_best(b, at_hand, settled):
+    found = 0
+    power = 1
+    for pull in at_hand:
+        if not any([is_worth_more(b, other, pull, settled) for other in at_hand]):
+            found = found + power
+        power = power * 2
+    return found
 
 
 def pull_numerator(b, pull, settled):

@@ -7,9 +7,11 @@ def steps(b, states, machines):
     return program.steps(b, 3, states, machines)
 
 
-CALLS = {"value": program.value, "steps": steps}
+CALLS = {"value": program.value, "steps": steps, "best": program.best}
 
 
 def is_taken(name, machines, answer):
     """Whether the answer has the form of one that is no refusal."""
+    if name == "best":
+        return len(answer) == 1 and 1 <= answer[0] < 2 ** (len(machines) // 2)
     return len(answer) == 2 and answer[0] == 0

@@ -1,5 +1,6 @@
 """Exact answers from the document's words, in fractions, that share nothing with the program."""
 
+import itertools
 from fractions import Fraction
 
 MILLION = 10 ** 6
@@ -34,3 +35,43 @@ def steps_worth(b, k, states, machines):
         return gains[at[i]] + Fraction(b, 100) * later
 
     return worth(k, tuple(states))
+
+
+def solved(rows):
+    """What solves the equations, each row with its right side last."""
+    rows = [list(row) for row in rows]
+    for k in range(len(rows)):
+        place = next(i for i in range(k, len(rows)) if rows[i][k])
+        rows[k], rows[place] = rows[place], rows[k]
+        rows[k] = [x / rows[k][k] for x in rows[k]]
+        for i in range(len(rows)):
+            if i != k and rows[i][k]:
+                rows[i] = [x - rows[i][k] * y for x, y in zip(rows[i], rows[k])]
+    return [row[-1] for row in rows]
+
+
+def pulled_row(machines, joint, at, i):
+    """The gain of pulling machine i, and the chances to come to each of the joint states."""
+    gains, weights = machines[2 * i], machines[2 * i + 1]
+    row = [Fraction(0)] * len(joint)
+    for state, chance in enumerate(chances(weights, len(gains), at[i])):
+        row[joint.index(at[:i] + (state,) + at[i + 1:])] += chance
+    return gains[at[i]], row
+
+
+def best_machines(b, states, machines):
+    """The machines that are best to pull: every choice of machines, one for each joint state, is tried."""
+    joint = list(itertools.product(*[range(len(gains)) for gains in machines[::2]]))
+    pulls = [[pulled_row(machines, joint, at, i) for i in range(len(at))] for at in joint]
+    tried = []
+    for choice in itertools.product(range(len(machines) // 2), repeat=len(joint)):
+        rows = []
+        for number, i in enumerate(choice):
+            gain, row = pulls[number][i]
+            rows.append([(t == number) - Fraction(b, 100) * x for t, x in enumerate(row)] + [Fraction(gain)])
+        tried.append(solved(rows))
+    # The best choice is best in every joint state at once.
+    worths = max(tried, key=sum)
+    number = joint.index(tuple(states))
+    after = [gain + Fraction(b, 100) * sum(x * y for x, y in zip(row, worths)) for gain, row in pulls[number]]
+    return [i for i, worth in enumerate(after) if worth == worths[number]]

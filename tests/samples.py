@@ -25,3 +25,19 @@ def machines_of(numbers, counts, most):
 
 def states_of(numbers, counts):
     return [next(numbers) % count for count in counts]
+
+
+def plain_machine(numbers, count):
+    """One of few gains and few weights, so that machines are often best together."""
+    gains = [next(numbers) % 3 for i in range(count)]
+    weights = [next(numbers) % 2 for i in range(count * count)]
+    for state in range(count):
+        weights[state * count + state] += 1 - min(1, sum(weights[state * count:][:count]))
+    return [gains, weights]
+
+
+def plain_machines_of(numbers, counts):
+    machines = []
+    for count in counts:
+        machines += plain_machine(numbers, count)
+    return machines

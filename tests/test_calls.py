@@ -57,6 +57,7 @@ class Calls(unittest.TestCase):
     def test_arguments_by_name(self):
         self.assertEqual(program.value(b=90, states=[0], machines=[[5], [1]]), [0, 50000000])
         self.assertEqual(program.steps(b=90, k=2, states=[0], machines=[[5], [1]]), [0, 9500000])
+        self.assertEqual(program.best(b=90, states=[0, 0], machines=[[5], [1], [6], [1]]), [2])
 
     def test_arguments_by_place(self):
         # b 2 and k 1 against b 1 and k 2
