@@ -42,6 +42,13 @@ def best(b, states, machines):
     return [sum_of_best(b, at_hand, best_worths(b, pulls))]
 
 
+def rate(b, states, machines):
+    """0 and each machine's rate in its state in millionths, or -1 alone."""
+    if is_refused(b, states, machines):
+        return [REFUSED]
+    return [DONE] + [millionths(found[0], found[1]) for found in all_rates(b, states, machines)]
+
+
 def is_refused(b, states, machines):
     count = len(machines) // 2
     if b < 1 or b > HUNDRED - 1 or count > MOST_MACHINES or len(states) != count:
@@ -227,6 +234,23 @@ def one_more_step(b, pulls, settled, common):
         # Over one divisor the greatest numerator is the greatest worth.
         numerators.append(max([pull_numerator(b, pull, settled) * (common // pull[1]) for pull in listed]))
     return (numerators, HUNDRED * common * settled[1])
+
+
+def all_rates(b, states, machines):
+    """For each machine its rate in its state, a numerator and its divisor."""
+    return [rate_of(b, states[i], machines[2 * i:2 * i + 2]) for i in range(len(states))]
+
+
+def rate_of(b, state, machine):
+    """The rate of one machine, given as a row of machines.
+
+    Ending for what the state itself is worth is the same as pulling there. So one may, at any
+    time, either pull on or begin anew as in that state; what the state is then worth is what
+    ending is worth, and the rate is what is gained in each step for ever to be worth as much.
+    """
+    own = [at_hand[0] for at_hand in all_pulls(machine)]
+    settled = best_worths(b, [[pull, own[state]] for pull in own])
+    return (settled[0][state] * (HUNDRED - b), settled[1] * HUNDRED)
 
 
 def worth_at(states, machines, settled):

@@ -75,3 +75,32 @@ def best_machines(b, states, machines):
     number = joint.index(tuple(states))
     after = [gain + Fraction(b, 100) * sum(x * y for x, y in zip(row, worths)) for gain, row in pulls[number]]
     return [i for i, worth in enumerate(after) if worth == worths[number]]
+
+
+def pulled_or_ended(b, rate, state, machine):
+    """What it is worth to pull in the state, and what to end, for a gain of the rate in each step for ever.
+
+    After the pull every way to go on is tried: each set of states in which one ends.
+    """
+    gains, weights = machine
+    later = Fraction(b, 100)
+    ended = rate / (1 - later)
+    worths = []
+    for ends in itertools.product((True, False), repeat=len(gains)):
+        rows = []
+        for s, gain in enumerate(gains):
+            own = [Fraction(t == s) for t in range(len(gains))]
+            if ends[s]:
+                rows.append(own + [ended])
+            else:
+                rows.append([x - later * y for x, y in zip(own, chances(weights, len(gains), s))] + [Fraction(gain)])
+        on = solved(rows)
+        worths.append(gains[state] + later * sum(x * y for x, y in zip(chances(weights, len(gains), state), on)))
+    return max(worths), ended
+
+
+def is_rate(b, millionths, state, machine):
+    """Whether this is the rate, cut down: one still pulls for it, and would end for a millionth more."""
+    pulled, ended = pulled_or_ended(b, Fraction(millionths, MILLION), state, machine)
+    pulled_above, ended_above = pulled_or_ended(b, Fraction(millionths + 1, MILLION), state, machine)
+    return pulled >= ended and pulled_above < ended_above
