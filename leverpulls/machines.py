@@ -1,4 +1,4 @@
-"""What machines are worth of which one is pulled at a time.
+"""What machines are worth of which one is pulled at a time, which one to pull, and their rates.
 
 The states of all machines together are one joint state, and the joint states are numbered.
 A pull is a tuple (gain, total, moves): what is gained at once, the sum of the weights, and
@@ -47,6 +47,14 @@ def rate(b, states, machines):
     if is_refused(b, states, machines):
         return [REFUSED]
     return [DONE] + [millionths(found[0], found[1]) for found in all_rates(b, states, machines)]
+
+
+def order(b, states, machines):
+    """0 and the machines' numbers, a greater rate first, or -1 alone."""
+    if is_refused(b, states, machines):
+        return [REFUSED]
+    sizes = over_one_divisor(all_rates(b, states, machines))
+    return [DONE] + sorted(range(len(sizes)), key=lambda i: (-sizes[i], i))
 
 
 def is_refused(b, states, machines):
@@ -251,6 +259,14 @@ def rate_of(b, state, machine):
     own = [at_hand[0] for at_hand in all_pulls(machine)]
     settled = best_worths(b, [[pull, own[state]] for pull in own])
     return (settled[0][state] * (HUNDRED - b), settled[1] * HUNDRED)
+
+
+def over_one_divisor(rates):
+    """The numerators of the rates over one divisor, so that they compare as the rates do."""
+    common = 1
+    for found in rates:
+        common = common * found[1]
+    return [found[0] * (common // found[1]) for found in rates]
 
 
 def worth_at(states, machines, settled):

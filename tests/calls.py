@@ -7,7 +7,7 @@ def steps(b, states, machines):
     return program.steps(b, 3, states, machines)
 
 
-CALLS = {"value": program.value, "steps": steps, "best": program.best, "rate": program.rate}
+CALLS = {"value": program.value, "steps": steps, "best": program.best, "rate": program.rate, "order": program.order}
 
 
 def is_taken(name, machines, answer):
@@ -16,4 +16,6 @@ def is_taken(name, machines, answer):
         return len(answer) == 1 and 1 <= answer[0] < 2 ** (len(machines) // 2)
     if name == "rate":
         return len(answer) == 1 + len(machines) // 2 and answer[0] == 0
+    if name == "order":
+        return answer[0] == 0 and sorted(answer[1:]) == list(range(len(machines) // 2))
     return len(answer) == 2 and answer[0] == 0

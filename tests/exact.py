@@ -104,3 +104,25 @@ def is_rate(b, millionths, state, machine):
     pulled, ended = pulled_or_ended(b, Fraction(millionths, MILLION), state, machine)
     pulled_above, ended_above = pulled_or_ended(b, Fraction(millionths + 1, MILLION), state, machine)
     return pulled >= ended and pulled_above < ended_above
+
+
+def rate_by_sets(b, state, machine):
+    """The rate: the most that is gained, for each step, till a set of states is left that holds the state.
+
+    A step counts less later, as a gain does.
+    """
+    gains, weights = machine
+    found = []
+    for kept in itertools.product((True, False), repeat=len(gains)):
+        if kept[state]:
+            gained = till_left(b, kept, gains, weights)[state]
+            found.append(gained / till_left(b, kept, [1] * len(gains), weights)[state])
+    return max(found)
+
+
+def till_left(b, kept, gains, weights):
+    rows = []
+    for s, gain in enumerate(gains):
+        on = chances(weights, len(gains), s) if kept[s] else [0] * len(gains)
+        rows.append([(t == s) - Fraction(b, 100) * x for t, x in enumerate(on)] + [Fraction(gain if kept[s] else 0)])
+    return solved(rows)

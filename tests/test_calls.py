@@ -59,6 +59,7 @@ class Calls(unittest.TestCase):
         self.assertEqual(program.steps(b=90, k=2, states=[0], machines=[[5], [1]]), [0, 9500000])
         self.assertEqual(program.best(b=90, states=[0, 0], machines=[[5], [1], [6], [1]]), [2])
         self.assertEqual(program.rate(b=90, states=[0, 0], machines=[[5], [1], [6], [1]]), [0, 5000000, 6000000])
+        self.assertEqual(program.order(b=90, states=[0, 0], machines=[[5], [1], [6], [1]]), [0, 1, 0])
 
     def test_arguments_by_place(self):
         # b 2 and k 1 against b 1 and k 2

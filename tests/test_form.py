@@ -1,6 +1,7 @@
 """The form of the package: the rules of the language that can be read off the files."""
 
 import ast
+import builtins
 import pathlib
 import re
 import unittest
@@ -62,6 +63,36 @@ class Form(unittest.TestCase):
                 self.assertIn(node.func.id, tuple(defined) + OWN_NAMES)
             if isinstance(node, ast.Attribute):
                 self.assertIn(node.attr, METHODS)
+
+    def test_no_name_is_one_of_pythons_own_or_begins_with_an_underscore(self):
+        for node in self.nodes():
+            names = []
+            if isinstance(node, ast.Name) and isinstance(node.ctx, ast.Store):
+                names.append(node.id)
+            if isinstance(node, (ast.FunctionDef, ast.ClassDef)):
+                names.append(node.name)
+            if isinstance(node, ast.arg):
+                names.append(node.arg)
+            for name in names:
+                self.assertFalse(hasattr(builtins, name) or name.startswith("_"), name)
+
+    def test_what_is_drawn_up_is_walked_at_once(self):
+        walkers = ("range", "zip", "enumerate", "reversed")
+        for node in self.nodes():
+            if isinstance(node, ast.Assign) and isinstance(node.value, ast.Call):
+                self.assertFalse(isinstance(node.value.func, ast.Name) and node.value.func.id in walkers)
+
+    def test_assignments_have_one_target(self):
+        for node in self.nodes():
+            if isinstance(node, ast.Assign):
+                self.assertEqual(len(node.targets), 1)
+                self.assertIsInstance(node.targets[0], (ast.Name, ast.Subscript, ast.Attribute))
+
+    def test_no_powers_and_no_percent_sign_in_texts(self):
+        for node in self.nodes():
+            self.assertNotIsInstance(node, ast.Pow)
+            if isinstance(node, ast.Constant) and isinstance(node.value, str):
+                self.assertNotIn("%", node.value)
 
     def test_nothing_is_kept_at_the_top_of_a_file(self):
         for tree in self.trees.values():
